@@ -1,0 +1,1 @@
+"""Crateslip: crates and their fields on one slip."""

@@ -1,0 +1,13 @@
+"""The refusals of the program."""
+
+
+class SlipError(ValueError):
+    pass
+
+
+class NoTable(SlipError):
+    pass
+
+
+class NoRow(SlipError):
+    pass
