@@ -19,7 +19,7 @@ def walked(path):
 class Package(unittest.TestCase):
     def test_modules_are_there(self):
         names = [path.name for path in sources()]
-        for name in ("__init__.py", "errors.py", "signs.py", "writing.py"):
+        for name in ("__init__.py", "errors.py", "reading.py", "signs.py", "states.py", "tidying.py", "writing.py"):
             self.assertIn(name, names)
 
     def test_nothing_else_lies_in_the_package(self):
